@@ -1,0 +1,1 @@
+"""A chancery's days and books."""
