@@ -1,6 +1,6 @@
 """The book of days: its years, feasts and reigns, and its rules."""
 
-from chancerydays.days import date_of, day_number, easter_of, is_date, is_day, is_leap, is_span, is_year
+from chancerydays.days import date_of, day_number, easter_of, is_date, is_day, is_span, is_year
 from chancerydays.rules import first_broken, first_of
 
 MOST_YEARS_BEHIND = 2
@@ -80,8 +80,7 @@ def is_feast_day(feast, day):
 def return_of(first, y):
     """The return of day first in year y."""
     date = date_of(first)
-    if date.month == 2 and date.nth == 29 and not is_leap(y):
-        return day_number(y, 3, 1)
+    # Where y has no 29th of month 2 this counts on to the 1st of month 3, as a return is asked to.
     return day_number(y, date.month, date.nth)
 
 

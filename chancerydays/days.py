@@ -85,7 +85,7 @@ def easter_of(y):
 
 def first_sunday_of(y):
     """Which of month 1, from 0 on, is the first Sunday of y."""
-    return (SUNDAY - weekday_of(year_start(y))) % 7
+    return SUNDAY - weekday_of(year_start(y))
 
 
 def roman_of(day):

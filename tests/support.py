@@ -94,6 +94,15 @@ def ask_all(calls, before=None):
     return said
 
 
+def wrong_answers(calls, expected, before=None):
+    """The first few (call, answer, expected answer) that differ; a short list, where a whole one would take long to show."""
+    calls = list(calls)
+    expected = list(expected)
+    said = ask_all(calls, before)
+    assert len(said) == len(expected)
+    return [one for one in zip(calls, said, expected) if one[1] != one[2]][:5]
+
+
 def months_of(y):
     return [31, 29 if y in LEAP_YEARS else 28, 31, 30, 31, 30, 31, 31, 30, 31, 30, 31]
 

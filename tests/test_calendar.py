@@ -3,8 +3,8 @@
 import unittest
 
 from tests.support import (
-    DAYS, EASTERS, HUGE, LAST_DAY, LEAP_YEARS, NUMBERS, ask, ask_all, day_call, easter_call, months_of, roman_call,
-    tell_call, walk_romans,
+    DAYS, EASTERS, HUGE, LAST_DAY, LEAP_YEARS, NUMBERS, ask, day_call, easter_call, months_of, roman_call, tell_call,
+    walk_romans, wrong_answers,
 )
 
 NO_DAYS = (-1, LAST_DAY + 1, -HUGE, HUGE)
@@ -25,8 +25,8 @@ class DayTest(unittest.TestCase):
         self.assertEqual(ask(day_call(5, 1, 1)), [[1461]])
 
     def test_every_date_has_its_number(self):
-        said = ask_all([day_call(*date[:3]) for date in DAYS])
-        self.assertEqual(said, [[number] for number in range(LAST_DAY + 1)])
+        wrong = wrong_answers([day_call(*date[:3]) for date in DAYS], [[number] for number in range(LAST_DAY + 1)])
+        self.assertEqual(wrong, [])
 
     def test_leap_day_of_every_year(self):
         for y in range(1, 2001):
@@ -49,7 +49,7 @@ class DayTest(unittest.TestCase):
                 )
 
     def test_no_such_day(self):
-        for wrong in (*NO_YEARS,):
+        for wrong in NO_YEARS:
             self.assertEqual(ask(day_call(wrong, 1, 1)), [[-3]], wrong)
         for wrong in (0, -1, 13, 14, -11, HUGE, -HUGE):
             self.assertEqual(ask(day_call(1200, wrong, 1)), [[-3]], wrong)
@@ -69,8 +69,8 @@ class TellTest(unittest.TestCase):
         self.assertEqual(ask(tell_call(hastings), tell_call(runnymede)), [[0, 1066, 10, 14, 5], [0, 1215, 6, 15, 0]])
 
     def test_every_day(self):
-        said = ask_all([tell_call(number) for number in range(LAST_DAY + 1)])
-        self.assertEqual(said, [[0, *date] for date in DAYS])
+        wrong = wrong_answers([tell_call(number) for number in range(LAST_DAY + 1)], [[0, *date] for date in DAYS])
+        self.assertEqual(wrong, [])
 
     def test_no_day(self):
         for wrong in NO_DAYS:
@@ -87,8 +87,8 @@ class EasterTest(unittest.TestCase):
             self.assertEqual(ask(easter_call(date[0])), [[NUMBERS[date]]], date)
 
     def test_every_year(self):
-        said = ask_all([easter_call(y) for y in range(1, 2001)])
-        self.assertEqual(said, [[EASTERS[y]] for y in range(1, 2001)])
+        wrong = wrong_answers([easter_call(y) for y in range(1, 2001)], [[EASTERS[y]] for y in range(1, 2001)])
+        self.assertEqual(wrong, [])
 
     def test_is_a_sunday_within_its_bounds(self):
         dates = []
@@ -153,8 +153,8 @@ class RomanTest(unittest.TestCase):
         self.assert_roman((1, 1, 1), (1, 0, 1))
 
     def test_every_day(self):
-        said = ask_all([roman_call(number) for number in range(LAST_DAY + 1)])
-        self.assertEqual(said, [[0, *told] for told in walk_romans()])
+        calls = [roman_call(number) for number in range(LAST_DAY + 1)]
+        self.assertEqual(wrong_answers(calls, [[0, *told] for told in walk_romans()]), [])
 
     def test_no_day(self):
         for wrong in NO_DAYS:

@@ -3,7 +3,7 @@
 import unittest
 
 from tests.support import (
-    DAYS, EASTERS, HUGE, LAST_DAY, NUMBERS, ask, ask_all, feast_call, months_of, set_call, year_call,
+    DAYS, EASTERS, HUGE, LAST_DAY, NUMBERS, ask, feast_call, months_of, set_call, wrong_answers, year_call,
 )
 
 
@@ -11,15 +11,15 @@ class FeastTest(unittest.TestCase):
     def test_fixed_feast_in_every_year(self):
         before = set_call(feasts=[0, 6, 24, 0, 0, 2, 28, 0, 0, 12, 31, 0])
         for f, (m, d) in enumerate(((6, 24), (2, 28), (12, 31))):
-            said = ask_all([feast_call(f, y) for y in range(1, 2001)], before)
-            self.assertEqual(said, [[NUMBERS[(y, m, d)]] for y in range(1, 2001)])
+            expected = [[NUMBERS[(y, m, d)]] for y in range(1, 2001)]
+            self.assertEqual(wrong_answers([feast_call(f, y) for y in range(1, 2001)], expected, before), [])
 
     def test_moving_feast_in_every_year(self):
         offs = (0, -1, 1, -46, 49, 200, -90)
         before = set_call(feasts=[number for off in offs for number in (1, 0, 0, off)])
         for f, off in enumerate(offs):
-            said = ask_all([feast_call(f, y) for y in range(2, 2001)], before)
-            self.assertEqual(said, [[EASTERS[y] + off] for y in range(2, 2001)])
+            expected = [[EASTERS[y] + off] for y in range(2, 2001)]
+            self.assertEqual(wrong_answers([feast_call(f, y) for y in range(2, 2001)], expected, before), [])
 
     def test_feast_in_another_year(self):
         y = next(y for y in range(2, 2001) if DAYS[EASTERS[y] - 90][0] == y - 1)
@@ -65,9 +65,9 @@ class YearTest(unittest.TestCase):
     def assert_reign(self, first, last):
         before = set_call(reigns=[first, last])
         days = range(max(0, first - 400), min(LAST_DAY, last + 400) + 1)
-        said = ask_all([year_call(0, day) for day in days], before)
         years = reign_years(first, last)
-        self.assertEqual(said, [[years.get(day, 0)] for day in days], (first, last))
+        expected = [[years.get(day, 0)] for day in days]
+        self.assertEqual(wrong_answers([year_call(0, day) for day in days], expected, before), [], (first, last))
 
     def test_an_ordinary_reign(self):
         reign = [NUMBERS[(1154, 12, 19)], NUMBERS[(1189, 7, 6)]]
@@ -92,7 +92,7 @@ class YearTest(unittest.TestCase):
 
     def test_every_day_of_some_reigns(self):
         for first in ((1200, 2, 28), (1200, 2, 29), (1200, 3, 1), (1201, 2, 28), (1201, 3, 1), (1203, 12, 31),
-                      (1204, 1, 1), (1205, 7, 15)):
+                      (1204, 1, 1), (1205, 7, 15), (1200, 1, 29), (1203, 5, 29), (1201, 3, 31)):
             day = NUMBERS[first]
             for length in (0, 1, 364, 365, 366, 4000):
                 self.assert_reign(day, day + length)
