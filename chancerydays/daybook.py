@@ -1,6 +1,6 @@
 """The book of days: its years, feasts and reigns, and its rules."""
 
-from chancerydays.days import date_of, day_number, easter_of, is_date, is_day, is_span, is_year
+from chancerydays.days import date_of, day_number, easter_of, is_date, is_day, is_easter, is_span, is_year, year_start
 from chancerydays.rules import first_broken, first_of
 
 MOST_YEARS_BEHIND = 2
@@ -17,6 +17,23 @@ class Daybook:
         self.last_year = last_year
         self.feasts = feasts
         self.reigns = reigns
+
+
+def first_day_of(daybook):
+    return year_start(daybook.first_year)
+
+
+def last_day_of(daybook):
+    return year_start(daybook.last_year + 1) - 1
+
+
+def days_of(daybook):
+    """The book's days, in order."""
+    return list(range(first_day_of(daybook), last_day_of(daybook) + 1))
+
+
+def dates_of(daybook):
+    return [date_of(day) for day in days_of(daybook)]
 
 
 def are_years(first, last):
@@ -70,25 +87,22 @@ def is_feast_day(feast, day):
     """Whether it's a day, and some year's feast."""
     if not is_day(day):
         return False
-    y = date_of(day).year
-    if feast_day(feast, y) == day:
-        return True
-    # 90 days before Easter may lie in the year before; 200 days after it are still in its own.
-    return is_year(y + 1) and feast_day(feast, y + 1) == day
+    if feast[0] == 0:
+        date = date_of(day)
+        return date.month == feast[1] and date.nth == feast[2]
+    return is_easter(day - feast[3])
 
 
-def return_of(first, y):
-    """The return of day first in year y."""
-    date = date_of(first)
+def return_of(begun, y):
+    """The return, in year y, of the date on which a reign has begun."""
     # Where y has no 29th of month 2 this counts on to the 1st of month 3, as a return is asked to.
-    return day_number(y, date.month, date.nth)
+    return day_number(y, begun.month, begun.nth)
 
 
-def reign_year(reign, day):
+def reign_year(reign, date):
     """Which year of the reign the day lies in, 0 if in none."""
-    first = reign[0]
-    if day < first or day > reign[1]:
+    if date.day < reign[0] or date.day > reign[1]:
         return 0
-    y = date_of(day).year
-    years_since = y - date_of(first).year
-    return years_since + 1 if day >= return_of(first, y) else years_since
+    begun = date_of(reign[0])
+    years_since = date.year - begun.year
+    return years_since + 1 if date.day >= return_of(begun, date.year) else years_since

@@ -14,9 +14,10 @@ DAYS_BEFORE = (0, 31, 59, 90, 120, 151, 181, 212, 243, 273, 304, 334, 365)
 
 
 class Date:
-    """A day's year, month, and number within the month."""
+    """A day with its year, its month, and its number within the month."""
 
-    def __init__(self, year, month, nth):
+    def __init__(self, day, year, month, nth):
+        self.day = day
         self.year = year
         self.month = month
         self.nth = nth
@@ -67,10 +68,11 @@ def date_of(day):
     years = min(rest // 365, 3)
     y = 4 * (day // DAYS_OF_FOUR_YEARS) + years + 1
     rest = rest - 365 * years
-    m = 1
+    # No month has more than 31 days, so it's not before this one.
+    m = rest // 31 + 1
     while days_before_month(y, m + 1) <= rest:
         m += 1
-    return Date(y, m, rest - days_before_month(y, m) + 1)
+    return Date(day, y, m, rest - days_before_month(y, m) + 1)
 
 
 def weekday_of(day):
@@ -83,14 +85,22 @@ def easter_of(y):
     return moon + 7 - (weekday_of(moon) + 1) % 7
 
 
+def is_easter(day):
+    """Whether it's Easter of some year; asked also of what lies just outside all days."""
+    # The weekday comes first since it's quickly told and settles most days.
+    if weekday_of(day) != SUNDAY:
+        return False
+    y = date_of(day).year
+    return is_year(y) and easter_of(y) == day
+
+
 def first_sunday_of(y):
     """Which of month 1, from 0 on, is the first Sunday of y."""
     return SUNDAY - weekday_of(year_start(y))
 
 
-def roman_of(day):
+def roman_of(date):
     """The month, kalends, nones or ides, and n by which a day is told."""
-    date = date_of(day)
     nones = 7 if date.month in MONTHS_OF_LATE_NONES else 5
     ides = nones + 8
     if date.nth == 1:

@@ -1,7 +1,7 @@
 """Marks: when one is right, and which days have it."""
 
-from chancerydays.days import date_of, first_sunday_of, roman_of, weekday_of
 from chancerydays.daybook import is_feast_day, reign_year
+from chancerydays.days import first_sunday_of, roman_of, weekday_of
 from chancerydays.styles import indiction_of, style_year
 
 MARK_LENGTH = 5
@@ -42,11 +42,6 @@ def is_right_mark(daybook, mark):
     return all([bound[0] <= number <= bound[1] for bound, number in zip(bounds, mark[1:])])
 
 
-def is_nth_of_month(day, m, nth):
-    date = date_of(day)
-    return date.month == m and date.nth == nth
-
-
 def is_beside_feast(feast, day, weekday, after):
     """Whether it's the last such weekday before, the first after some year's feast."""
     if weekday_of(day) != weekday:
@@ -55,28 +50,35 @@ def is_beside_feast(feast, day, weekday, after):
     return any([is_feast_day(feast, day + step * away) for away in range(1, 8)])
 
 
-def has_mark(daybook, day, mark):
-    """Whether the day has the mark, which is right."""
+def has_mark(daybook, date, mark):
+    """Whether the day of this date has the mark, which is right."""
     kind = mark[0]
     a = mark[1]
     b = mark[2]
     x = mark[4]
     if kind == 0:
-        return is_nth_of_month(day, a, b)
+        return date.month == a and date.nth == b
     if kind == 1:
-        return roman_of(day) == (a, b, x)
+        return roman_of(date) == (a, b, x)
     if kind == 2:
-        return weekday_of(day) == a
+        return weekday_of(date.day) == a
     if kind == 3:
-        return style_year(day, a) == x
+        return style_year(date, a) == x
     if kind == 4:
-        return indiction_of(day, a) == x
+        return indiction_of(date, a) == x
     if kind == 5:
-        return is_feast_day(daybook.feasts[a], day - x)
+        return is_feast_day(daybook.feasts[a], date.day - x)
     if kind == 6:
-        return is_beside_feast(daybook.feasts[a], day, b, mark[3])
+        return is_beside_feast(daybook.feasts[a], date.day, b, mark[3])
     if kind == 7:
-        return reign_year(daybook.reigns[a], day) == x
+        return reign_year(daybook.reigns[a], date) == x
     if kind == 8:
-        return date_of(day).year % 19 + 1 == x
-    return first_sunday_of(date_of(day).year) == a
+        return date.year % 19 + 1 == x
+    return first_sunday_of(date.year) == a
+
+
+def days_with(daybook, dates, marks):
+    """Those of the days of the dates that have all the marks."""
+    for mark in marks:
+        dates = [date for date in dates if has_mark(daybook, date, mark)]
+    return [date.day for date in dates]

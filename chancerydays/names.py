@@ -1,5 +1,7 @@
 """Names, as the numbers of their letters."""
 
+from chancerydays.rules import first_of
+
 BLANK = 32
 LONGEST_NAME = 31
 CAPITAL_A = 65
@@ -20,6 +22,11 @@ def split_names(letters):
             begun = place + 1
     names.append(tuple(letters[begun:]))
     return names
+
+
+def number_of(names, name):
+    """Which of the names it is, None if none."""
+    return first_of([k for k, known in enumerate(names) if known == name])
 
 
 def is_length_of_name(name):

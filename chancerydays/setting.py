@@ -1,8 +1,10 @@
 """The call set: rows that become the object's book of days and books, or are refused."""
 
 from chancerydays.daybook import Daybook, broken_daybook_rule
+from chancerydays.groups import in_groups, is_by
 from chancerydays.ledger import Ledger, broken_ledger_rule
 from chancerydays.names import split_names
+from chancerydays.rides import ride_table
 
 # Where set's rows stand, one behind another.
 HEAD = 0
@@ -16,17 +18,6 @@ SEALS = 7
 PLACES = 8
 WAYS = 9
 SEENS = 10
-
-
-def in_groups(row, size):
-    return [tuple(row[k:k + size]) for k in range(0, len(row), size)]
-
-
-def is_by(row, size, columns):
-    """Whether the row is by so many, with no number below 0 in these columns."""
-    if len(row) % size != 0:
-        return False
-    return all([number >= 0 or k % size not in columns for k, number in enumerate(row)])
 
 
 def are_rows(rows):
@@ -76,4 +67,5 @@ def settle(chancery, rows):
         return [-7, 2, broken[0], broken[1]]
     chancery.daybook = daybook
     chancery.ledger = ledger
+    chancery.rides = ride_table(len(ledger.places), ledger.ways)
     return [0]

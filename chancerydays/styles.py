@@ -1,6 +1,6 @@
 """Styles: where a year begins; and the indictions that are reckoned by them."""
 
-from chancerydays.days import date_of, day_number, easter_of
+from chancerydays.days import day_number, easter_of
 
 LAST_STYLE = 5
 CALENDAR_STYLE = 0
@@ -24,13 +24,13 @@ def turn_of(y, s):
     return day_number(y, beginning[0], beginning[1])
 
 
-def style_year(day, s):
+def style_year(date, s):
     """The year in which the day lies by style s."""
-    y = date_of(day).year
+    y = date.year
     begins_in_y = y + 1 if s in STYLES_AHEAD else y
-    return begins_in_y if day >= turn_of(y, s) else begins_in_y - 1
+    return begins_in_y if date.day >= turn_of(y, s) else begins_in_y - 1
 
 
-def indiction_of(day, a):
+def indiction_of(date, a):
     s = SEPTEMBER_STYLE if a == 0 else CALENDAR_STYLE
-    return (style_year(day, s) + 2) % 15 + 1
+    return (style_year(date, s) + 2) % 15 + 1

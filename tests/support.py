@@ -1,5 +1,7 @@
 """What the tests share: how calls are written, and a calendar that is walked day by day."""
 
+import functools
+
 from chancerydays.books import answers
 
 LAST_DAY = 730499
@@ -7,6 +9,10 @@ MOST_CALLS = 400
 MOST_NUMBERS = 16000
 HUGE = 10 ** 18
 SET_ROWS = ("head", "feasts", "reigns", "lives", "persons", "offices", "holds", "seals", "places", "ways", "seens")
+
+
+def flat(things):
+    return [number for thing in things for number in thing]
 
 
 def row(numbers):
@@ -55,6 +61,42 @@ def style_call(day, s):
 
 def has_call(day, *mark):
     return [9, day] + row(mark)
+
+
+def means_call(*marks):
+    return [10] + row(flat(marks))
+
+
+def clash_call(*marks):
+    return [11] + row(flat(marks))
+
+
+def find_call(what, name):
+    return [12, what] + row(name)
+
+
+def holder_call(office, day):
+    return [13, office, day]
+
+
+def highest_call(person, day):
+    return [14, person, day]
+
+
+def ride_call(i, j):
+    return [15, i, j]
+
+
+def can_call(day, *claim):
+    return [16, day] + row(claim)
+
+
+def spans_call(*claims):
+    return [17] + row(flat(claims))
+
+
+def barred_call(*claims):
+    return [18] + row(flat(claims))
 
 
 def ask_line(calls):
@@ -140,6 +182,7 @@ def walk_easters():
 EASTERS = walk_easters()
 
 
+@functools.cache
 def walk_styles():
     """For each style the year of each day, one more on each day on which a year begins."""
     begins = {0: {(1, 1)}, 1: {(3, 25)}, 2: {(3, 25)}, 3: {(12, 25)}, 5: {(9, 1)}}
@@ -155,6 +198,7 @@ def walk_styles():
     return styles
 
 
+@functools.cache
 def walk_romans():
     """(month, kalends 0, nones 1, ides 2, n) of each day, from the last day back."""
     romans = []

@@ -3,8 +3,9 @@
 import unittest
 
 from tests.support import (
-    DAYS, EASTERS, HUGE, LAST_DAY, NUMBERS, ask, feast_call, months_of, set_call, wrong_answers, year_call,
+    DAYS, EASTERS, HUGE, LAST_DAY, NUMBERS, ask, feast_call, set_call, wrong_answers, year_call,
 )
+from tests.walked import reign_years
 
 
 class FeastTest(unittest.TestCase):
@@ -43,22 +44,6 @@ class FeastTest(unittest.TestCase):
 
     def test_at_first_there_is_none(self):
         self.assertEqual(ask(feast_call(0, 1), feast_call(-1, 1)), [[-3], [-3]])
-
-
-def reign_years(first, last):
-    """Which year of the reign each of its days lies in, by walking on from its first day."""
-    y, m, d, weekday = DAYS[first]
-    years = {}
-    k = 0
-    for day in range(first, last + 1):
-        year, month, nth, weekday = DAYS[day]
-        if (m, d) == (2, 29) and months_of(year)[1] == 28:
-            begins = (month, nth) == (3, 1)
-        else:
-            begins = (month, nth) == (m, d)
-        k += 1 if begins else 0
-        years[day] = k
-    return years
 
 
 class YearTest(unittest.TestCase):

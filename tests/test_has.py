@@ -6,6 +6,7 @@ import unittest
 from tests.support import (
     DAYS, EASTERS, HUGE, LAST_DAY, NUMBERS, ask, ask_all, has_call, set_call, walk_romans, walk_styles, wrong_answers,
 )
+from tests.walked import beside, days_of_feast
 
 OFFS = (0, -90, 200, 49, -85)
 FIXED = ((1, 1), (12, 31), (6, 24), (2, 28), (3, 1), (1, 3), (12, 28))
@@ -18,17 +19,7 @@ EDGE_DAYS = [*range(0, 500), *range(NUMBERS[(1199, 12, 1)], NUMBERS[(1201, 2, 1)
 
 def feast_days(f):
     """The days of a feast of FEASTS, year by year."""
-    if f < len(FIXED):
-        return [NUMBERS[(y, *FIXED[f])] for y in range(1, 2001)]
-    days = [EASTERS[y] + OFFS[f - len(FIXED)] for y in range(1, 2001)]
-    return [day for day in days if 0 <= day <= LAST_DAY]
-
-
-def beside(feast, weekday, step):
-    day = feast + step
-    while 0 <= day <= LAST_DAY and DAYS[day][3] != weekday:
-        day += step
-    return day
+    return days_of_feast(*FEASTS[4 * f:4 * f + 4])
 
 
 class HasTest(unittest.TestCase):

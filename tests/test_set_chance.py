@@ -3,11 +3,7 @@
 import random
 import unittest
 
-from tests.support import set_call, wrong_answers
-
-
-def flat(things):
-    return [number for thing in things for number in thing]
+from tests.support import flat, set_call, wrong_answers
 
 
 def first_second_holder(holds):

@@ -2,7 +2,10 @@
 
 import unittest
 
-from tests.support import HUGE, LAST_DAY, ask, feast_call, set_call
+from tests.support import (
+    HUGE, LAST_DAY, ask, barred_call, can_call, clash_call, feast_call, find_call, highest_call, holder_call, means_call, ride_call,
+    set_call, spans_call,
+)
 
 GOOD = {
     "head": [1200, 1202],
@@ -113,13 +116,19 @@ class RefusedSetTest(unittest.TestCase):
     def test_a_refused_set_changes_nothing(self):
         good = set_call(**GOOD)
         asked = [feast_call(0, 1200), feast_call(1, 1200), feast_call(2, 1200), [7, 0, 150], [7, 1, 150], [9, 0, 5, 7, 1, 0, 0, 1]]
+        asked += [means_call(), means_call((5, 1, 0, 0, 0)), clash_call((3, 0, 0, 0, 1203)), find_call(0, "Bela"), find_call(1, "notary")]
+        asked += [find_call(2, "Bruges"), holder_call(1, 500), highest_call(1, 600), ride_call(1, 0), can_call(12, 3, 1, 0)]
+        asked += [can_call(10, 3, 0, 0), spans_call((2, 1, 0)), barred_call((0, 1, 0))]
         told = ask(good, *asked)[1:]
         refused = (
             {"head": [1]}, {"ways": [0]}, {"persons": "Anna"}, {"head": [0, 1]}, {"reigns": [5, 4]},
             {"offices": "Bad"}, {"seens": [10, 0, 12, 1]}, {"seens": [LAST_DAY + 1, 0]},
         )
         for changed in refused:
-            rows = {**GOOD, "feasts": [0, 1, 1, 0], "reigns": [0, LAST_DAY], **changed}
+            rows = {
+                **GOOD, "head": [1, 1], "feasts": [0, 1, 1, 0], "reigns": [0, LAST_DAY], "persons": "Cora Dora", "holds": [],
+                "seals": [], "ways": [0, 1, 3], "offices": "scribe", "places": "Ypres Lille", **changed,
+            }
             said = ask(good, set_call(**rows), *asked)
             self.assertIn(said[1][0], (-2, -7))
             self.assertEqual(said[2:], told, changed)
