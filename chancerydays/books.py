@@ -132,6 +132,7 @@ def answer_clash(chancery, numbers, rows):
     daybook = chancery.daybook
     dates = dates_of(daybook)
     marks = in_groups(rows[0], MARK_LENGTH)
+    # A date that means some day is told much quicker so than by its marks one by one.
     if days_with(daybook, dates, marks):
         return [0]
     least = least_set([set_of_days(daybook, days_with(daybook, dates, [mark])) for mark in marks])
