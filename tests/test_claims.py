@@ -201,6 +201,14 @@ class SpansTest(unittest.TestCase):
         self.assert_spans([(20, 40), (80, 90)], *[(HELD, 0, 0), (LIVED, 0, 0)] * 4)
         self.assert_spans([], *[(HELD, 0, 0)] * 7, (HELD, 1, 0))
 
+    def test_eight_and_nine_claims_in_each_book(self):
+        for head in ((1, 1), (1, 2), (1, 3), (4, 4), (1199, 1200), (1201, 1203), (1998, 2000), (2000, 2000)):
+            before = set_call(**BOOKS, head=head)
+            days = days_of_years(*head)
+            claims = [(LIVED, 2, 0), (SEALED, 2, 0)] * 4
+            said = ask(before, spans_call(*claims), barred_call(*claims), spans_call(*claims, at(3)), barred_call(*claims, at(3)))
+            self.assertEqual(said[1:], [[1, days[0], days[-1]], [0], [-2], [-2]], head)
+
     def test_each_span_as_long_as_can_be(self):
         # Two holds that meet are one span; one day between them parts them.
         rows = {"lives": [0, 100], "persons": "Anna", "offices": "notary"}

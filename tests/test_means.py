@@ -113,6 +113,14 @@ class MeansTest(DateTest):
         self.assert_means([], *[MAY_13] * 7, NEVER)
         self.assert_means([(1201, 5, 13)], *[MAY_13] * 7, year_mark(1201))
 
+    def test_eight_and_nine_marks_in_each_book(self):
+        for head in HEADS:
+            before = set_call(head=head)
+            sundays = [day for day in days_of_years(*head) if DAYS[day][3] == 6]
+            marks = [(2, 6, 0, 0, 0)] * 8
+            said = ask(before, means_call(*marks), clash_call(*marks), means_call(*marks, NEVER), clash_call(*marks, NEVER))
+            self.assertEqual(said[1:], [[len(sundays)] + sundays, [0], [-2], [-2]], head)
+
     def test_the_order_of_the_marks_is_nothing(self):
         for marks in itertools.permutations((MAY_13, year_mark(1202), weekday_mark((1202, 5, 13)))):
             self.assert_means([(1202, 5, 13)], *marks)
